@@ -1,0 +1,1 @@
+"""Driftkept: a store of keys in memory that lasts."""

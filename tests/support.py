@@ -1,0 +1,65 @@
+"""What several tests use: machines that follow a list, and memories with their cells."""
+
+from driftkept.memory import Layout, Memory
+
+
+class Listed:
+    """A machine that requests what a list tells, one after the other, and keeps the results."""
+
+    def __init__(self, requests):
+        self.requests = list(requests)
+        self.results = []
+
+    def request(self):
+        return self.requests[len(self.results)]
+
+    def accept(self, result):
+        self.results.append(result)
+
+
+class Echo:
+    """A machine that calls another one and ends with what came of it."""
+
+    def __init__(self, called):
+        self.called = called
+        self.accepted = []
+
+    def request(self):
+        if self.accepted:
+            return ("end", ("echo", self.accepted[0]))
+        return ("call", self.called)
+
+    def accept(self, result):
+        self.accepted.append(result)
+
+
+def a_memory(threads=2, words=2, records=6):
+    return Memory(Layout(threads, words, records))
+
+
+def lasting_cells(memory):
+    layout = memory.layout
+    return [cell for cell in range(layout.cells()) if layout.is_lasting(cell)]
+
+
+def told(memory):
+    """All that a memory tells of itself."""
+    trails = {cell: memory.trail(cell) for cell in lasting_cells(memory)}
+    values = [memory.peek(cell) for cell in range(memory.layout.cells())]
+    return (memory.count, memory.log(), values, trails)
+
+
+def behind_fences(memory):
+    """What a memory tells of itself behind a fence of each thread, which shows the notes."""
+    seen = []
+    for thread in range(memory.layout.threads):
+        memory.access(thread, ("fence",))
+        seen.append(told(memory))
+    return seen
+
+
+def in_kinds(value):
+    """The value with the kinds of its parts, for which True is not equal to 1."""
+    if isinstance(value, tuple):
+        return ("tuple", [in_kinds(part) for part in value])
+    return (value.__class__.__name__, value)

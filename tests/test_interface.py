@@ -1,0 +1,119 @@
+"""The first paragraphs of the interface: names, arguments, files, attributes, methods."""
+
+import ast
+import importlib
+import inspect
+import pathlib
+import unittest
+
+from driftkept.machines import Machine, Stack
+from driftkept.memory import Layout, Memory
+
+PACKAGE = pathlib.Path(__file__).resolve().parent.parent / "driftkept"
+
+FUNCTIONS = {"memory": {"is_mark": ["value"]}}
+
+# For each class the arguments with which it is made, and its methods with theirs.
+CLASSES = {
+    "errors": {"LineError": (None, {}), "NotValid": (None, {}), "Broken": (None, {})},
+    "machines": {"Stack": (["machine"], {"step": ["memory", "thread"], "ended": [], "value": []})},
+    "memory": {
+        "Layout": (
+            ["threads", "words", "records"],
+            {
+                "epoch": [],
+                "epoch_slot": ["thread"],
+                "call_slot": ["thread"],
+                "word": ["index"],
+                "record": ["index"],
+                "cells": [],
+                "is_record": ["cell"],
+                "is_lasting": ["cell"],
+            },
+        ),
+        "Memory": (
+            ["layout"],
+            {
+                "access": ["thread", "request"],
+                "peek": ["cell"],
+                "lasting": ["cell"],
+                "trail": ["cell"],
+                "drift": ["cell", "steps"],
+                "cut": ["choices"],
+                "log": [],
+            },
+        ),
+    },
+}
+
+
+def module_of(name):
+    return importlib.import_module("driftkept." + name)
+
+
+def arguments(function):
+    return [name for name in inspect.signature(function).parameters if name != "self"]
+
+
+class Interface(unittest.TestCase):
+    def check_place(self, thing, name):
+        self.assertEqual(thing.__module__, "driftkept." + name)
+
+    def test_functions(self):
+        for name, functions in FUNCTIONS.items():
+            for function, expected in functions.items():
+                found = getattr(module_of(name), function)
+                self.check_place(found, name)
+                self.assertEqual(arguments(found), expected)
+
+    def test_classes(self):
+        for name, classes in CLASSES.items():
+            for title, (expected, methods) in classes.items():
+                found = getattr(module_of(name), title)
+                self.check_place(found, name)
+                if expected is not None:
+                    self.assertEqual(arguments(found.__init__), expected)
+                for method, taken in methods.items():
+                    self.assertIn(method, vars(found), title)
+                    self.assertEqual(arguments(vars(found)[method]), taken)
+
+    def test_attributes_are_set_when_the_object_is_created(self):
+        layout = Layout(2, 3, 4)
+        self.assertEqual((vars(layout)["threads"], vars(layout)["words"], vars(layout)["records"]), (2, 3, 4))
+        memory = Memory(layout)
+        self.assertIs(vars(memory)["layout"], layout)
+        self.assertEqual(vars(memory)["count"], 0)
+
+    def test_arguments_by_name(self):
+        memory = Memory(layout=Layout(threads=1, words=1, records=4))
+        self.assertEqual(memory.access(thread=0, request=("fence",)), (None, 1))
+        self.assertIs(Stack(machine=Machine()).step(memory=memory, thread=0), False)
+
+
+class Files(unittest.TestCase):
+    def files(self):
+        return sorted(PACKAGE.glob("**/*.py"))
+
+    def test_the_package_holds_plain_files_alone(self):
+        found = [path for path in PACKAGE.glob("**/*") if "__pycache__" not in path.parts]
+        self.assertEqual(sorted(found), self.files())
+        self.assertIn(PACKAGE / "__init__.py", found)
+
+    def test_sizes_and_signs(self):
+        for path in self.files():
+            lines = path.read_bytes().decode("ascii").split("\n")
+            self.assertLessEqual(len(lines), 399, path)
+            for number, line in enumerate(lines, 1):
+                self.assertLessEqual(len(line), 120, (path, number))
+                self.assertTrue(line == "" or line.isprintable(), (path, number))
+
+    def test_imports_are_from_the_package_alone(self):
+        for path in self.files():
+            for node in ast.walk(ast.parse(path.read_text())):
+                self.assertNotIsInstance(node, ast.Import, path)
+                if isinstance(node, ast.ImportFrom):
+                    self.assertTrue(node.module.startswith("driftkept."), (path, node.module))
+
+
+if __name__ == "__main__":
+    unittest.main()
