@@ -4,14 +4,41 @@ from driftkept.errors import NotValid
 
 
 class Machine:
-    """The plainest machine: it ends at once. Others stand below it and define both methods anew."""
+    """The plainest machine: it ends at once with None.
+
+    Others stand below it. They define both methods anew, and tell by `_ask`
+    and `_end` what they want.
+    """
+
+    def __init__(self):
+        self._wanted = ("end", None)
+        self._left = []
+        self._then = None
 
     def request(self):
         """What the machine wants next; it changes nothing."""
-        return ("end", None)
+        return self._wanted
 
     def accept(self, result):
         """Take the result of what was requested."""
+        self._go_on(result)
+
+    def _ask(self, requests, then):
+        # Several requests are made one after the other, and `then`, a method
+        # of the machine, takes the result of the last one alone.
+        self._wanted = requests[0]
+        self._left = requests[1:]
+        self._then = then
+
+    def _end(self, value):
+        self._wanted = ("end", value)
+
+    def _go_on(self, result):
+        if self._left:
+            self._wanted = self._left.pop(0)
+        else:
+            then = self._then
+            then(result)
 
 
 class Stack:

@@ -1,6 +1,7 @@
 """Memory that lasts: its cells, the accesses to them, drifts and cuts."""
 
 from driftkept.errors import NotValid
+from driftkept.records import EMPTY
 from driftkept.values import is_many, is_same, is_value, is_within
 
 
@@ -83,6 +84,11 @@ def is_access(layout, request):
     return False
 
 
+def lasting_accesses(cells):
+    """The accesses by which a thread makes cells last: each is flushed, and then it makes a fence."""
+    return [("flush", cell) for cell in cells] + [("fence",)]
+
+
 def passing_values(layout):
     """The values of the passing cells at first, in the order of the cells."""
     return [0] + [None] * layout.threads
@@ -93,7 +99,7 @@ def first_trails(layout):
     trails = {cell: [None] for cell in range(layout.call_slot(0), layout.cells())}
     for index in range(layout.words):
         trails[layout.word(index)] = [layout.record(index)]
-        trails[layout.record(index)] = [("items", ())]
+        trails[layout.record(index)] = [EMPTY]
     return trails
 
 

@@ -16,6 +16,11 @@ def is_many(value):
     return is_whole(value) and value >= 0
 
 
+def is_ascending(numbers):
+    """True if each number in a list is greater than the one before it."""
+    return all([low < high for low, high in zip(numbers, numbers[1:])])
+
+
 def is_value(value):
     """True if a cell can hold the value."""
     # Tuples wait in a list, so that deep ones need no deep recursion.

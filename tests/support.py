@@ -1,5 +1,6 @@
 """What several tests use: machines that follow a list, and memories with their cells."""
 
+from driftkept.machines import Stack
 from driftkept.memory import Layout, Memory
 
 
@@ -63,3 +64,55 @@ def in_kinds(value):
     if isinstance(value, tuple):
         return ("tuple", [in_kinds(part) for part in value])
     return (value.__class__.__name__, value)
+
+
+class Pausing:
+    """A machine that makes so many fences of its own before it ends."""
+
+    def __init__(self, accesses):
+        self.left = accesses
+
+    def request(self):
+        return ("fence",) if self.left else ("end", None)
+
+    def accept(self, result):
+        self.left -= 1
+
+
+def run(memory, thread, machine, most=1000):
+    """Let a thread run a machine alone until it has ended; its value."""
+    stack = Stack(machine)
+    for _ in range(most):
+        stack.step(memory, thread)
+        if stack.ended():
+            return stack.value()
+    raise AssertionError("the machine does not end")
+
+
+def started(memory, thread, machine, accesses):
+    """The stack of a machine of which a thread has made so many accesses."""
+    stack = Stack(machine)
+    for _ in range(accesses):
+        assert stack.step(memory, thread)
+    return stack
+
+
+def run_on(memory, thread, stack, most=1000):
+    """Let a thread go on with a stack alone until it is empty; its value."""
+    for _ in range(most):
+        if stack.ended():
+            return stack.value()
+        stack.step(memory, thread)
+    raise AssertionError("the stack does not end")
+
+
+def requests_behind(memory, number):
+    """The requests of all accesses behind the one with this number."""
+    return [request for at, thread, request in memory.log() if at > number]
+
+
+def write_lasting(memory, thread, cell, value):
+    """Give a cell a value that lasts."""
+    memory.access(thread, ("write", cell, value))
+    memory.access(thread, ("flush", cell))
+    memory.access(thread, ("fence",))

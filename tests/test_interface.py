@@ -6,12 +6,30 @@ import inspect
 import pathlib
 import unittest
 
+from driftkept.deeds import Doing
+from driftkept.epochs import Entering, Leaving, Store
 from driftkept.machines import Machine, Stack
 from driftkept.memory import Layout, Memory
+from driftkept.reads import Shown
 
 PACKAGE = pathlib.Path(__file__).resolve().parent.parent / "driftkept"
 
-FUNCTIONS = {"memory": {"is_mark": ["value"]}}
+FUNCTIONS = {
+    "memory": {"is_mark": ["value"]},
+    "reads": {"shown_now": ["memory", "index"]},
+    "deeds": {"deed_record": ["status", "entries", "thread", "number", "answer"]},
+    "epochs": {"divided": ["layout", "cells", "thread"]},
+    "records": {
+        "bucket_of": ["key"],
+        "is_items": ["value", "bucket"],
+        "value_in": ["record", "key"],
+        "with_item": ["record", "key", "value"],
+        "without_item": ["record", "key"],
+    },
+}
+
+# What makes a class a machine (point [3]).
+MACHINE = {"request": [], "accept": ["result"]}
 
 # For each class the arguments with which it is made, and its methods with theirs.
 CLASSES = {
@@ -43,6 +61,22 @@ CLASSES = {
                 "log": [],
             },
         ),
+    },
+    "reads": {"Shown": (["layout", "index"], MACHINE)},
+    "deeds": {"Doing": (["address", "without"], MACHINE)},
+    "epochs": {
+        "Store": (
+            ["layout", "thread", "cells"],
+            {
+                "take": ["many"],
+                "give_back": ["cells"],
+                "take_out": ["cells"],
+                "free_cells": [],
+                "waiting": [],
+            },
+        ),
+        "Entering": (["store"], MACHINE),
+        "Leaving": (["store"], MACHINE),
     },
 }
 
@@ -83,11 +117,26 @@ class Interface(unittest.TestCase):
         memory = Memory(layout)
         self.assertIs(vars(memory)["layout"], layout)
         self.assertEqual(vars(memory)["count"], 0)
+        store = Store(layout, 1, [20])
+        self.assertIs(vars(store)["layout"], layout)
+        self.assertEqual(vars(store)["thread"], 1)
 
     def test_arguments_by_name(self):
         memory = Memory(layout=Layout(threads=1, words=1, records=4))
         self.assertEqual(memory.access(thread=0, request=("fence",)), (None, 1))
         self.assertIs(Stack(machine=Machine()).step(memory=memory, thread=0), False)
+        self.assertEqual(Shown(layout=memory.layout, index=0).request(), ("read", memory.layout.word(0)))
+        self.assertEqual(Doing(address=6, without=5).request(), ("read", 6))
+        store = Store(layout=memory.layout, thread=0, cells=[6])
+        self.assertEqual(Entering(store=store).request()[0], "read")
+        self.assertEqual(Leaving(store=store).request()[0], "write")
+
+    def test_what_has_a_default(self):
+        self.assertEqual(inspect.signature(Doing).parameters["without"].default, 0)
+
+    def test_constants(self):
+        records = module_of("records")
+        self.assertEqual((records.BUCKETS, records.EMPTY), (4, ("items", ())))
 
 
 class Files(unittest.TestCase):

@@ -2,7 +2,7 @@
 
 import unittest
 
-from driftkept.values import is_many, is_same, is_value, is_whole, is_within
+from driftkept.values import is_ascending, is_many, is_same, is_value, is_whole, is_within
 
 
 class Integers(unittest.TestCase):
@@ -21,6 +21,12 @@ class Integers(unittest.TestCase):
     def test_limits(self):
         self.assertEqual([is_many(value) for value in (-1, 0, 1, 10 ** 30)], [False, True, True, True])
         self.assertEqual([is_within(value, 1, 3) for value in range(5)], [False, True, True, True, False])
+
+    def test_numbers_that_ascend(self):
+        for numbers in ([], [4], [-1, 0], [0, 1, 10 ** 30]):
+            self.assertIs(is_ascending(numbers), True)
+        for numbers in ([0, 0], [1, 0], [0, 1, 1], [0, 2, 1], [1, 0, 2]):
+            self.assertIs(is_ascending(numbers), False)
 
 
 class Values(unittest.TestCase):
