@@ -6,7 +6,7 @@ from driftkept.memory import is_mark
 
 def is_done(status):
     """True if this value of a status cell tells that its deed is done."""
-    return isinstance(status, tuple) and status[0] == "done"
+    return isinstance(status, tuple) and status[:1] == ("done",)
 
 
 def shown_by(mark, status):

@@ -116,3 +116,41 @@ def write_lasting(memory, thread, cell, value):
     memory.access(thread, ("write", cell, value))
     memory.access(thread, ("flush", cell))
     memory.access(thread, ("fence",))
+
+
+class Asked:
+    """A machine that asks another one for each of its requests twice, and so the machines that it calls."""
+
+    def __init__(self, machine):
+        self.machine = machine
+        self.called = None
+
+    def request(self):
+        first, second = self.machine.request(), self.machine.request()
+        assert first == second, (first, second)
+        if first[0] != "call":
+            return first
+        if self.called is None or self.called.machine is not first[1]:
+            self.called = Asked(first[1])
+        return ("call", self.called)
+
+    def accept(self, result):
+        self.machine.accept(result)
+
+
+def draw_call(draw, keys):
+    """Draw a call over the keys from -keys to keys, with values from 0 to 2."""
+    one, other, third = draw.sample(range(-keys, keys + 1), 3)
+    old, new = draw.randrange(3), draw.randrange(3)
+    pairs = ((one, old), (other, new), (third, draw.randrange(3)))[:draw.randrange(1, 4)]
+    return draw.choice([
+        ("look", one),
+        ("put", one, new),
+        ("put", one, new),
+        ("take", one),
+        ("change", one, old, new),
+        ("move", one, other),
+        ("move", one, other),
+        ("puts", pairs),
+        ("puts", pairs),
+    ])

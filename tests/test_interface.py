@@ -6,11 +6,14 @@ import inspect
 import pathlib
 import unittest
 
+from driftkept.calls import KeyCall, machine_of
 from driftkept.deeds import Doing
 from driftkept.epochs import Entering, Leaving, Store
 from driftkept.machines import Machine, Stack
 from driftkept.memory import Layout, Memory
+from driftkept.plans import buckets_of, is_call, plan
 from driftkept.reads import Shown
+from driftkept.recovery import Recovering
 
 PACKAGE = pathlib.Path(__file__).resolve().parent.parent / "driftkept"
 
@@ -26,7 +29,16 @@ FUNCTIONS = {
         "with_item": ["record", "key", "value"],
         "without_item": ["record", "key"],
     },
+    "plans": {"is_call": ["value"], "buckets_of": ["call"], "plan": ["call", "records"]},
+    "calls": {"machine_of": ["store", "call", "number", "without"]},
 }
+
+# What has default values; nothing else has.
+DEFAULTS = [
+    (Doing, {"without": 0}),
+    (KeyCall, {"without": 0}),
+    (machine_of, {}),
+]
 
 # What makes a class a machine (point [3]).
 MACHINE = {"request": [], "accept": ["result"]}
@@ -78,6 +90,8 @@ CLASSES = {
         "Entering": (["store"], MACHINE),
         "Leaving": (["store"], MACHINE),
     },
+    "calls": {"KeyCall": (["store", "call", "number", "without"], MACHINE)},
+    "recovery": {"Recovering": (["layout"], MACHINE)},
 }
 
 
@@ -120,6 +134,8 @@ class Interface(unittest.TestCase):
         store = Store(layout, 1, [20])
         self.assertIs(vars(store)["layout"], layout)
         self.assertEqual(vars(store)["thread"], 1)
+        call = KeyCall(store, ("look", 0), 1)
+        self.assertEqual((vars(call)["done"], vars(call)["status"]), (None, None))
 
     def test_arguments_by_name(self):
         memory = Memory(layout=Layout(threads=1, words=1, records=4))
@@ -130,9 +146,19 @@ class Interface(unittest.TestCase):
         store = Store(layout=memory.layout, thread=0, cells=[6])
         self.assertEqual(Entering(store=store).request()[0], "read")
         self.assertEqual(Leaving(store=store).request()[0], "write")
+        call = {"store": store, "call": ("look", 0), "number": 1, "without": 0}
+        self.assertEqual(KeyCall(**call).request()[0], "call")
+        self.assertEqual(machine_of(**call).request()[0], "call")
+        self.assertEqual(plan(call=("look", 0), records={0: ("items", ())}), ("answer", None, 0))
+        self.assertEqual(buckets_of(call=("look", 5)), [1])
+        self.assertIs(is_call(value=("look", 5)), True)
+        self.assertEqual(Recovering(layout=memory.layout).request(), ("read", memory.layout.call_slot(0)))
 
     def test_what_has_a_default(self):
-        self.assertEqual(inspect.signature(Doing).parameters["without"].default, 0)
+        for function, defaults in DEFAULTS:
+            parameters = inspect.signature(function).parameters.values()
+            found = {one.name: one.default for one in parameters if one.default is not inspect.Parameter.empty}
+            self.assertEqual(found, defaults)
 
     def test_constants(self):
         records = module_of("records")
