@@ -2,12 +2,11 @@
 
 from driftkept.deeds import Doing, deed_record
 from driftkept.epochs import Entering, Leaving
-from driftkept.errors import Broken
 from driftkept.machines import Machine
 from driftkept.memory import lasting_accesses
 from driftkept.plans import buckets_of, plan
 from driftkept.reads import Shown, is_done
-from driftkept.records import is_items
+from driftkept.records import EMPTY, is_items
 
 
 class KeyCall(Machine):
@@ -62,11 +61,10 @@ class KeyCall(Machine):
         self._ask([("read", result[0])], self._take_record)
 
     def _take_record(self, result):
-        record = result[0]
-        # A store that left out what is needed may show anything behind a cut.
-        if not is_items(record, self._buckets[0]):
-            raise Broken()
-        self._found[self._buckets.pop(0)] = record
+        bucket = self._buckets.pop(0)
+        # Only a store that leaves something out can show what is no record, behind a cut. Its calls go on
+        # as if there was nothing; it is the checker that tells of it.
+        self._found[bucket] = result[0] if is_items(result[0], bucket) else EMPTY
         self._look_on()
 
     def _make_plan(self):

@@ -4,7 +4,6 @@ import unittest
 
 from call_support import Calls, items, lasting
 from driftkept.calls import KeyCall, machine_of
-from driftkept.errors import Broken
 from driftkept.records import EMPTY
 from driftkept.reads import shown_now
 from support import Asked, in_kinds, requests_behind, run, run_on, started
@@ -545,14 +544,16 @@ class Fields(Calls):
             self.assertEqual(machine.request()[0], "call")
 
 
-class BrokenRecords(Calls):
-    def test_a_word_that_shows_no_record(self):
+class NoRecords(Calls):
+    """Words that show what is no record, as a store that leaves something out may."""
+
+    def test_a_call_goes_on_as_if_there_was_nothing(self):
         for value in (None, 0, ("done", 3), items((1, 5)), "items"):
             self.make()
             self.write(self.first[0], value)
-            stack = started(self.memory, 0, self.call(("look", 0)), 4)
-            with self.assertRaises(Broken):
-                stack.step(self.memory, 0)
+            self.assertEqual(self.whole(("look", 0))[0], (None, 5))
+            self.assertEqual(self.whole(("put", 0, 5), 2)[0][0], None)
+            self.assertEqual(self.memory.peek(shown_now(self.memory, 0)), items((0, 5)))
 
 
 if __name__ == "__main__":

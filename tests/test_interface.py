@@ -14,6 +14,7 @@ from driftkept.memory import Layout, Memory
 from driftkept.plans import buckets_of, is_call, plan
 from driftkept.reads import Shown
 from driftkept.recovery import Recovering
+from driftkept.world import World
 
 PACKAGE = pathlib.Path(__file__).resolve().parent.parent / "driftkept"
 
@@ -31,6 +32,21 @@ FUNCTIONS = {
     },
     "plans": {"is_call": ["value"], "buckets_of": ["call"], "plan": ["call", "records"]},
     "calls": {"machine_of": ["store", "call", "number", "without"]},
+    "judge": {
+        "answer_of": ["plain", "call"],
+        "after_call": ["plain", "call"],
+        "is_change": ["row"],
+        "in_order": ["rows"],
+        "map_at": ["rows", "number"],
+        "first_fault": ["rows"],
+    },
+    "checks": {
+        "first_fault": ["memory", "stores"],
+        "shape_fault": ["memory"],
+        "shown_map": ["memory"],
+        "lasting_map": ["memory"],
+    },
+    "needed": {"fault_of": ["world"], "breaking": ["place"]},
 }
 
 # What has default values; nothing else has.
@@ -38,6 +54,7 @@ DEFAULTS = [
     (Doing, {"without": 0}),
     (KeyCall, {"without": 0}),
     (machine_of, {}),
+    (World, {"records": 60, "without": 0}),
 ]
 
 # What makes a class a machine (point [3]).
@@ -92,6 +109,12 @@ CLASSES = {
     },
     "calls": {"KeyCall": (["store", "call", "number", "without"], MACHINE)},
     "recovery": {"Recovering": (["layout"], MACHINE)},
+    "world": {
+        "World": (
+            ["calls", "records", "without"],
+            {"play": ["acts"], "settle": ["rounds"], "recovering": [], "idle": ["thread"], "history": []},
+        ),
+    },
 }
 
 
@@ -136,6 +159,9 @@ class Interface(unittest.TestCase):
         self.assertEqual(vars(store)["thread"], 1)
         call = KeyCall(store, ("look", 0), 1)
         self.assertEqual((vars(call)["done"], vars(call)["status"]), (None, None))
+        world = World([[("look", 0)], []])
+        self.assertIs(vars(world)["memory"].layout, vars(world)["layout"])
+        self.assertEqual([one.thread for one in vars(world)["stores"]], [0, 1])
 
     def test_arguments_by_name(self):
         memory = Memory(layout=Layout(threads=1, words=1, records=4))
@@ -153,6 +179,25 @@ class Interface(unittest.TestCase):
         self.assertEqual(buckets_of(call=("look", 5)), [1])
         self.assertIs(is_call(value=("look", 5)), True)
         self.assertEqual(Recovering(layout=memory.layout).request(), ("read", memory.layout.call_slot(0)))
+
+    def test_arguments_of_worlds_and_what_looks_at_them_by_name(self):
+        world = World(calls=[[("put", 0, 5)]], records=20, without=0)
+        self.assertEqual(world.play(acts=[0]), [True])
+        self.assertIs(world.settle(rounds=90), True)
+        self.assertIs(world.idle(thread=0), True)
+        rows = world.history()
+        judge, checks, needed = module_of("judge"), module_of("checks"), module_of("needed")
+        self.assertEqual(judge.first_fault(rows=rows), ("", -1))
+        self.assertEqual(judge.map_at(rows=rows, number=world.memory.count), {0: 5})
+        self.assertEqual((judge.in_order(rows=rows), judge.is_change(row=rows[0])), ([0], True))
+        self.assertEqual(judge.answer_of(plain={}, call=("look", 0)), None)
+        self.assertEqual(judge.after_call(plain={}, call=("put", 0, 1)), {0: 1})
+        self.assertEqual(checks.first_fault(memory=world.memory, stores=world.stores), "")
+        self.assertEqual(checks.shape_fault(memory=world.memory), "")
+        self.assertEqual(checks.shown_map(memory=world.memory), {0: 5})
+        self.assertEqual(checks.lasting_map(memory=world.memory), {0: 5})
+        self.assertEqual(needed.fault_of(world=world), "")
+        self.assertEqual(len(needed.breaking(place=1)), 2)
 
     def test_what_has_a_default(self):
         for function, defaults in DEFAULTS:
